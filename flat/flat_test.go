@@ -282,7 +282,7 @@ func TestSmall(t *testing.T) {
 // P12.1: many drawings, narrow and wide, dense and thin, wherever they are.
 func TestMany(t *testing.T) {
 	r := numberer(1)
-	for range 5 {
+	for range 3 {
 		for _, side := range []int{1, 2, 5, 17, 40} {
 			l := starts(side)
 			for _, x := range l {
@@ -296,7 +296,7 @@ func TestMany(t *testing.T) {
 
 // P12.1: two cells so wide or so high apart, around each limit.
 func TestBoxes(t *testing.T) {
-	for _, most := range []int{0, 1, 2, 3, 32, 33, 255, 256, 257, 999, 1000} {
+	for _, most := range []int{0, 1, 2, 3, 33, 256, 1000} {
 		m := api.Limits{Box: most}
 		for size := max(1, most-2); size <= min(most+2, 1001); size++ {
 			for _, from := range starts(size) {
@@ -524,7 +524,7 @@ func TestOneWay(t *testing.T) {
 // P12.2: in whatever order cells come, and however often, the texts are the same; as Plain wherever they are.
 func TestSameTexts(t *testing.T) {
 	r := numberer(11)
-	for range 200 {
+	for range 100 {
 		side := 1 + r.below(20)
 		d := near("B3/S23", r.spots(1+r.below(30), side)...)
 		back := near("B3/S23", append(slices.Clone(d.on), d.on...)...)
