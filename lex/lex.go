@@ -11,8 +11,17 @@ import (
 // UsualRule is that of bytes that tell none.
 const UsualRule = "B3/S23"
 
-// someRule may stand where a rule is lacking.
-const someRule = "x"
+// someRule and someDigit may stand where a rule, or a digit, is lacking.
+const (
+	someRule  = "x"
+	someDigit = "1"
+)
+
+// digits are all of them; nought is a number by itself, and no other one begins with it.
+const (
+	digits = "0123456789"
+	nought = "0"
+)
 
 // fault is what is thrown where bytes can't go on.
 type fault struct {
@@ -104,6 +113,25 @@ func (l *Lexer) Rule() string {
 	}
 	if l.at == from {
 		l.Need(someRule)
+	}
+	return l.bytes[from:l.at]
+}
+
+// Number: past the text of a number.
+func (l *Lexer) Number() string {
+	from := l.at
+	if l.Skip(nought) {
+		return nought
+	}
+	l.Skip("-")
+	first := l.at
+	switch size := len(l.Span(digits)); {
+	case size == 0:
+		l.Need(someDigit)
+	case strings.HasPrefix(l.bytes[first:], nought):
+		l.Throw(first, api.ErrSyntax)
+	case size > api.MaxDigits:
+		l.Throw(first+api.MaxDigits, api.ErrLimit)
 	}
 	return l.bytes[from:l.at]
 }

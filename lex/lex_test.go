@@ -29,9 +29,11 @@ func TestWords(t *testing.T) {
 	need := func(l *lex.Lexer) string { l.Need("ab"); return "" }
 	span := func(l *lex.Lexer) string { return l.Span("ab") }
 	rule := func(l *lex.Lexer) string { return l.Rule() }
+	number := func(l *lex.Lexer) string { return l.Number() }
 	remark := func(l *lex.Lexer) string { l.Remark(); return "" }
 	end := func(l *lex.Lexer) string { l.LineEnd(); return "" }
 	forty := strings.Repeat("r", 40)
+	most := strings.Repeat("9", 400)
 	for _, c := range []struct {
 		b      string
 		do     func(*lex.Lexer) string
@@ -54,6 +56,20 @@ func TestWords(t *testing.T) {
 		{"!~ ", rule, "!~", 2, 0, api.OK, ""},
 		{"\x7f", rule, "", 0, 0, api.ErrSyntax, ""},
 		{"", rule, "", 0, 0, api.ErrEnd, "x"},
+		{"0", number, "0", 1, 0, api.OK, ""},
+		{"05", number, "0", 1, 0, api.OK, ""},
+		{"-10x", number, "-10", 3, 0, api.OK, ""},
+		{most, number, most, 400, 0, api.OK, ""},
+		{"-" + most + " ", number, "-" + most, 401, 0, api.OK, ""},
+		{most + "9", number, "", 401, 400, api.ErrLimit, ""},
+		{"-" + most + "99", number, "", 403, 401, api.ErrLimit, ""},
+		{"-0", number, "", 2, 1, api.ErrSyntax, ""},
+		{"-0" + most, number, "", 402, 1, api.ErrSyntax, ""},
+		{"-x", number, "", 1, 1, api.ErrSyntax, ""},
+		{"+1", number, "", 0, 0, api.ErrSyntax, ""},
+		{"--1", number, "", 1, 1, api.ErrSyntax, ""},
+		{"-", number, "-", 1, 1, api.ErrEnd, "1"},
+		{"", number, "", 0, 0, api.ErrEnd, "1"},
 		{"\x00 \xff\r\n", remark, "", 3, 0, api.OK, ""},
 		{"a\nb", remark, "", 1, 0, api.OK, ""},
 		{"ab", remark, "", 2, 0, api.OK, ""},
@@ -78,13 +94,14 @@ func TestLacking(t *testing.T) {
 		l.Need("abc")
 		l.Need("def")
 		l.Rule()
+		l.Number()
 		l.LineEnd()
 		l.Remark()
 		if l.More() || l.Skip("c") || l.Span("c") != "" {
 			t.Error("there is more")
 		}
 	})
-	if h != "cdefx" || !ok {
+	if h != "cdefx1" || !ok {
 		t.Errorf("got %q, %v", h, ok)
 	}
 }
